@@ -1,0 +1,1 @@
+"""Persistent collections whose shared structure is determined by their contents."""
