@@ -10,6 +10,11 @@ def compare_scalars(a, b):
     return -1 if a < b else 1
 
 
+def order_of(scalar):
+    """Return a value by which scalars are sorted in their order."""
+    return (isinstance(scalar, str), scalar)
+
+
 def digits_of(number):
     """Return the four digits of a number in base 65536, the most significant digit first."""
     return ((number >> 48) & 65535, (number >> 32) & 65535, (number >> 16) & 65535, number & 65535)

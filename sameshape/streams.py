@@ -1,9 +1,7 @@
 """Elements that arrive in several portions."""
 
-from sameshape.errors import TooManyElements
 from sameshape.growing import Growth, rest_of
-
-MOST = 2000
+from sameshape.limits import check_count
 
 
 class Stream:
@@ -23,9 +21,7 @@ class Stream:
 
     def feed(self, contents):
         """Take the elements and return the tuple of the new settlements."""
-        count = len(self._taken) + len(contents)
-        if count > MOST:
-            raise TooManyElements(count)
+        check_count(len(self._taken) + len(contents))
         found = []
         for element in contents:
             found.extend(self._growth.take(element))

@@ -41,9 +41,11 @@ def levels_of(contents):
 
 
 def number_tree(contents, numbers, found):
-    """Give numbers to all nodes of the canonical tree, as number_node does."""
-    if contents:
-        number_node(tree_of(contents), numbers, found)
+    """Give numbers to all nodes of the canonical tree, as number_node does.
+
+    Return the number of its root, or None if there are no elements.
+    """
+    return number_node(tree_of(contents), numbers, found) if contents else None
 
 
 def table_of(contents):

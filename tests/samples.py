@@ -2,6 +2,8 @@
 
 import random
 
+from tests import collections_model
+
 FAR = 10 ** 15
 EDGES = (-FAR, -65536 ** 3, -65537, -65536, -65535, -1, 0, 1, 65535, 65536, 65537, 65536 ** 2 - 1, 65536 ** 2,
          65536 ** 3 - 1, 65536 ** 3, FAR)
@@ -96,3 +98,23 @@ def any_nodes(many, height, seed):
     """Some nodes of all forms."""
     source = random.Random(seed)
     return tuple(any_node(source, height) for _ in range(many))
+
+
+def any_map(many, keys, values, seed):
+    """Some map with at most so many of these keys."""
+    return collections_model.map_of(tuple(zip(picked(many, keys, seed), picked(many, values, seed + 1))))
+
+
+def any_intervals(many, seed):
+    """Some intervals, which may overlap and touch."""
+    source = random.Random(seed)
+    starts = [source.randint(-15, 15) for _ in range(many)]
+    return tuple((start, start + source.choice((1, 1, 2, 3, 7))) for start in starts)
+
+
+def any_set(many, seed):
+    """Some contents of an interval set."""
+    return collections_model.intervals_with(collections_model.numbers_of(any_intervals(many, seed)))
+
+
+SETS = tuple(any_set(many % 7, many) for many in range(28))

@@ -15,10 +15,19 @@ class RowCase(unittest.TestCase):
         for part in value:
             self.assert_rows(part)
 
-    def assert_result(self, expected, function, *given):
+    def assert_result(self, expected, function, *given, **named):
         """The function returns what is expected, in tuples, and changes nothing that it is given."""
-        before = pickle.dumps(given)
-        found = function(*given)
+        before = pickle.dumps((given, named))
+        found = function(*given, **named)
         self.assert_rows(found)
         self.assertEqual(found, expected)
-        self.assertEqual(given, pickle.loads(before))
+        self.assertEqual((given, named), pickle.loads(before))
+
+    def assert_refused(self, error, function, *given, **named):
+        """The function raises such an error with such attributes, and changes nothing that it is given."""
+        before = pickle.dumps((given, named))
+        with self.assertRaises(type(error)) as caught:
+            function(*given, **named)
+        self.assertIs(type(caught.exception), type(error))
+        self.assertEqual(vars(caught.exception), vars(error))
+        self.assertEqual((given, named), pickle.loads(before))
