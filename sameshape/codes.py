@@ -1,5 +1,8 @@
 """The order of scalars, and the codes of elements."""
 
+# The greatest integer that is a scalar.
+FAR = 1000000000000000
+
 
 def compare_scalars(a, b):
     """Return -1, 0 or 1 if the scalar a comes before b, equals b or comes after b."""

@@ -1,6 +1,7 @@
 """Recipes that follow the trees of contents."""
 
 from sameshape.nodes import children_of
+from sameshape.numbering import size_with
 from sameshape.trees import number_tree
 
 
@@ -8,12 +9,7 @@ def sizes_of(entries):
     """Return the list of the sizes of the nodes with these entries."""
     sizes = []
     for entry in entries:
-        if entry[0] == "leaf":
-            sizes.append(1)
-        elif entry[0] == "run":
-            sizes.append(sizes[entry[1]] * entry[2])
-        else:
-            sizes.append(sum([sizes[child] for child in entry[1]]))
+        sizes.append(size_with(entry, sizes))
     return sizes
 
 

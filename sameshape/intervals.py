@@ -1,9 +1,8 @@
 """Interval sets: finite sets of integers as the fewest intervals."""
 
+from sameshape.codes import FAR
 from sameshape.errors import EmptyInterval, IntervalOutOfRange
 from sameshape.limits import checked
-
-FAR = 1000000000000000
 
 
 def check_interval(start, end):
